@@ -1,0 +1,1 @@
+"""Sweepends: steps that solve linear equations, decided in fractions."""

@@ -1,0 +1,18 @@
+"""Checks of arguments that several modules share, each with the error that it raises."""
+from sweepends.errors import InvalidNumber, InvalidRow
+from sweepends.exact import is_fraction
+
+
+def require_number(value, low, high):
+    """A whole number from low up to high."""
+    if type(value) is not int or value < low or value > high:
+        raise InvalidNumber(value)
+
+
+def require_row(value, size):
+    """A row of so many fractions."""
+    if type(value) is not tuple or len(value) != size:
+        raise InvalidRow(None)
+    for index, part in enumerate(value):
+        if not is_fraction(part):
+            raise InvalidRow(index)
