@@ -8,11 +8,13 @@ ROOT = os.path.dirname(os.path.dirname(os.path.abspath(__file__)))
 PACKAGE = os.path.join(ROOT, "sweepends")
 LIBRARY = {"math": {"gcd", "lcm", "isqrt", "comb", "perm", "factorial"}}
 BUILTINS = set(
-    "len range enumerate zip min max sum abs sorted reversed int str bool list tuple dict set isinstance type"
-    " any all divmod ValueError".split())
-METHODS = set("append extend get items".split())
-NOT_THERE = (ast.Global, ast.Nonlocal, ast.With, ast.AsyncFunctionDef, ast.Await, ast.Yield, ast.YieldFrom, ast.Try,
-             ast.Div, ast.Lambda, ast.JoinedStr, ast.Import, ast.Delete, ast.Match, ast.NamedExpr)
+    "len range enumerate zip min max sum abs sorted reversed int str bool list tuple dict set isinstance type any all"
+    " divmod pow ord repr map iter next bytes frozenset ValueError KeyError ZeroDivisionError".split())
+METHODS = set(
+    "append clear copy count endswith extend find get index insert isalnum isalpha isdigit islower isspace isupper"
+    " items join keys ljust lower lstrip partition pop remove replace reverse rfind rjust rpartition rsplit rstrip"
+    " setdefault split splitlines startswith strip update upper values zfill bit_length add discard sort".split())
+NOT_THERE = (ast.AsyncFunctionDef, ast.AsyncFor, ast.AsyncWith, ast.Await, ast.Div, ast.Import)
 
 
 def files():
