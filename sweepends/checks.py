@@ -1,6 +1,8 @@
 """Checks of arguments that several modules share, each with the error that it raises."""
-from sweepends.errors import InvalidNumber, InvalidRow
+from sweepends.errors import InvalidFraction, InvalidNumber, InvalidRow
 from sweepends.exact import is_fraction
+
+MOST_MANY = 1000000
 
 
 def require_number(value, low, high):
@@ -16,3 +18,14 @@ def require_row(value, size):
     for index, part in enumerate(value):
         if not is_fraction(part):
             raise InvalidRow(index)
+
+
+def require_many(value):
+    """A number of parts of 1 in which something is told near."""
+    require_number(value, 1, MOST_MANY)
+
+
+def require_amount(value):
+    """A fraction above 0."""
+    if not is_fraction(value) or value[0] <= 0:
+        raise InvalidFraction(value)

@@ -17,6 +17,11 @@ def image(grid, row):
     return tuple([dot(line, row) for line in grid])
 
 
+def grid_form(grid, row):
+    """The form of a symmetric grid at the row."""
+    return dot(row, image(grid, row))
+
+
 def grid_minus(grid, other):
     return tuple([rows_minus(row, beside) for row, beside in zip(grid, other)])
 
@@ -50,16 +55,17 @@ def pivot_row(rows, at):
 
 
 def cleared(rows, size):
-    """Whole-number rows with their first `size` columns cleared but along them, and the determinant of these columns.
+    """Whole-number rows, as many as the size, with columns cleared but along them, the determinant, how many columns.
 
-    With the determinant 0 the rows are left half cleared.
+    If the determinant of the first `size` columns is 0, just those ahead of the first one are cleared that is a sum of
+    multiples of these; in any case one and the same number stands along the cleared ones.
     """
     lines = list(rows)
     ahead, sign = 1, 1
     for at in range(size):
         found = pivot_row(lines, at)
         if found is None:
-            return lines, 0
+            return lines, 0, at
         if found != at:
             lines[at], lines[found] = lines[found], lines[at]
             sign = -sign
@@ -70,7 +76,7 @@ def cleared(rows, size):
                 factor = lines[k][at]
                 lines[k] = [(lead[at] * one - factor * other) // ahead for one, other in zip(lines[k], lead)]
         ahead = lead[at]
-    return lines, sign * ahead
+    return lines, sign * ahead, size
 
 
 def grid_determinant(grid):
@@ -79,14 +85,14 @@ def grid_determinant(grid):
         numbers, divisor = whole_row(row)
         rows.append(numbers)
         scale = scale * divisor
-    _, worth = cleared(rows, len(rows))
+    _, worth, _ = cleared(rows, len(rows))
     return reduced(worth, scale)
 
 
 def solved(grid, rights):
     """The one grid X with grid X = rights; None if the first grid has no inverse."""
     size = len(grid)
-    lines, worth = cleared([whole_row(row + right)[0] for row, right in zip(grid, rights)], size)
+    lines, worth, _ = cleared([whole_row(row + right)[0] for row, right in zip(grid, rights)], size)
     if worth == 0:
         return None
     return tuple([tuple([reduced(number, line[at]) for number in line[size:]]) for at, line in enumerate(lines)])
@@ -122,4 +128,19 @@ def grid_polynomial(grid):
     for number in whole_polynomial(rows):
         found.append(reduced(number, scale))
         scale = scale * divisor
+    return tuple(found[::-1])
+
+
+def least_of(grid, row):
+    """The polynomial p of least degree, its last number 1, with p(grid) row = noughts."""
+    rows, divisor = whole_grid(grid)
+    numbers, _ = whole_row(row)
+    columns = [numbers]
+    for _ in rows:
+        columns.append([whole_dot(line, columns[-1]) for line in rows])
+    lines, _, degree = cleared([list(line) for line in zip(*columns)], len(rows))
+    found, scale = [ONE], 1
+    for at in range(degree - 1, -1, -1):
+        scale = scale * divisor
+        found.append(reduced(-lines[at][degree], lines[at][at] * scale))
     return tuple(found[::-1])

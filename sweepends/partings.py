@@ -2,7 +2,7 @@
 from sweepends.checks import require_number, require_row
 from sweepends.errors import InvalidParting, NoInverse
 from sweepends.exact import NIL, plus, reduced, rows_minus, rows_plus, whole_dot, whole_row
-from sweepends.grids import grid_determinant, grid_minus, image, solved, solved_row, whole_grid
+from sweepends.grids import grid_determinant, grid_minus, grid_polynomial, image, solved, solved_row, whole_grid
 from sweepends.tables import is_table, require_table
 
 MOST_STEPS = 40
@@ -32,6 +32,11 @@ def error_table(parting):
 def errors_of(parting):
     table, split = parting
     return solved(split, grid_minus(split, table))
+
+
+def error_polynomial(parting):
+    """The polynomial of the error table."""
+    return grid_polynomial(errors_of(parting))
 
 
 def solution(table, right):

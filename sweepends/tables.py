@@ -2,8 +2,8 @@
 from sweepends.checks import require_row
 from sweepends.errors import InvalidTable, NotSymmetric
 from sweepends.exact import NIL, ONE, dot, is_row, minus, over, plus, times
-from sweepends.grids import corner, grid_determinant, grid_polynomial, image, multiplied, solved, solved_row
-from sweepends.grids import turned_grid, unit_grid
+from sweepends.grids import corner, grid_determinant, grid_form, grid_polynomial, image, multiplied, solved
+from sweepends.grids import solved_row, turned_grid, unit_grid
 
 MOST_ROWS = 5
 
@@ -73,7 +73,7 @@ def form_at(table, row):
     require_table(table)
     require_row(row, len(table))
     require_symmetric(table)
-    return dot(row, image(table, row))
+    return grid_form(table, row)
 
 
 def low_row(table):

@@ -36,7 +36,7 @@ class Examples(unittest.TestCase):
             compared += 1
             with self.subTest(line=line):
                 self.assertEqual(answer(line[4:], names), following)
-        self.assertGreaterEqual(compared, 5)
+        self.assertGreaterEqual(compared, 10)
 
 
 if __name__ == "__main__":
