@@ -1,6 +1,6 @@
 """Checks of arguments that several modules share, each with the error that it raises."""
-from sweepends.errors import InvalidFraction, InvalidNumber, InvalidRow
-from sweepends.exact import is_fraction
+from sweepends.errors import InvalidAmounts, InvalidFraction, InvalidNumber, InvalidRow
+from sweepends.exact import is_amount, is_fraction
 
 MOST_MANY = 1000000
 
@@ -25,7 +25,21 @@ def require_many(value):
     require_number(value, 1, MOST_MANY)
 
 
+def require_fraction(value):
+    if not is_fraction(value):
+        raise InvalidFraction(value)
+
+
 def require_amount(value):
     """A fraction above 0."""
-    if not is_fraction(value) or value[0] <= 0:
+    if not is_amount(value):
         raise InvalidFraction(value)
+
+
+def require_amounts(value, size):
+    """A row of so many fractions above 0."""
+    if type(value) is not tuple or len(value) != size:
+        raise InvalidAmounts(None)
+    for index, part in enumerate(value):
+        if not is_amount(part):
+            raise InvalidAmounts(index)

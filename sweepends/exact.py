@@ -22,6 +22,25 @@ def is_row(size, value):
     return all(is_fraction(part) for part in value)
 
 
+def is_amount(value):
+    """Whether a value, whatever it is, is a fraction above 0."""
+    return is_fraction(value) and value[0] > 0
+
+
+def are_amounts(size, value):
+    """Whether a value, whatever it is, is a row of so many fractions above 0."""
+    return is_row(size, value) and all(number > 0 for number, _ in value)
+
+
+def are_contents(size, value):
+    """Whether a value, whatever it is, is a row of so many fractions from 0 on, not all of them 0."""
+    return is_row(size, value) and all(number >= 0 for number, _ in value) and not are_noughts(value)
+
+
+def are_noughts(row):
+    return all(part == NIL for part in row)
+
+
 def reduced(number, divisor):
     """The fraction number / divisor; the divisor may be below 0."""
     common = gcd(number, divisor)
@@ -45,6 +64,28 @@ def times(first, second):
 def over(first, second):
     """The first fraction divided by the second one, which is not 0."""
     return reduced(first[0] * second[1], first[1] * second[0])
+
+
+def size_of(part):
+    """How far a fraction is from 0."""
+    return abs(part[0]), part[1]
+
+
+def is_above(first, second):
+    return first[0] * second[1] > second[0] * first[1]
+
+
+def greatest(parts):
+    """The greatest of one or more fractions."""
+    found = parts[0]
+    for part in parts[1:]:
+        if is_above(part, found):
+            found = part
+    return found
+
+
+def row_times(row, factor):
+    return tuple([times(part, factor) for part in row])
 
 
 def rows_plus(row, other):

@@ -2,7 +2,7 @@
 from fractions import Fraction
 from random import Random
 
-from helpers import det, made_rows, numbers, table_of, times
+from helpers import det, made_row, made_rows, numbers, table_of, times, times_row
 from sweepends.tables import inverse
 
 HALF, THIRD = Fraction(1, 2), Fraction(1, 3)
@@ -124,3 +124,44 @@ def from_roots(roots):
     for root in roots:
         found = poly_times(found, [-Fraction(root), Fraction(1)])
     return found
+
+
+def rank(rows):
+    left, found = [list(row) for row in rows], 0
+    for at in range(len(rows[0]) if rows else 0):
+        for k in range(found, len(left)):
+            if left[k][at] != 0:
+                left[found], left[k] = left[k], left[found]
+                for other in range(found + 1, len(left)):
+                    factor = left[other][at] / left[found][at]
+                    left[other] = [one - factor * lead for one, lead in zip(left[other], left[found])]
+                found += 1
+                break
+    return found
+
+
+def images(rows, row, count):
+    found = [list(row)]
+    for _ in range(count):
+        found.append(times_row(rows, found[-1]))
+    return found
+
+
+def dots(row, other):
+    return sum(one * beside for one, beside in zip(row, other))
+
+
+def mirrored(size, seed):
+    """Rows of a mirroring: symmetric, their own inverse."""
+    side = made_row(size, seed)
+    if not any(side):
+        side[0] = Fraction(1)
+    share = 2 / dots(side, side)
+    return [[(at == k) - share * side[at] * side[k] for k in range(size)] for at in range(size)]
+
+
+def symmetric_with(roots, seed):
+    """Symmetric rows with these roots, seen from other axes at right angles, and these axes as columns."""
+    axes = times(mirrored(len(roots), seed), mirrored(len(roots), seed + 500))
+    along = blocks(*[single(root) for root in roots])
+    return axes, times(times(axes, along), [list(column) for column in zip(*axes)])

@@ -1,55 +1,9 @@
-"""Wrong arguments of every function: which error comes first, with what, by position and by name."""
+"""Wrong arguments of the functions on tables, methods, partings, errors that die, rates, falls and levels."""
 import unittest
 
-from helpers import LESS, NIL, ODD_FRACTIONS, ODD_VALUES, ONE, TWO, one_table, singular_rows, swapped, table_of
+from arguments import BARE_RING, FLAT, FLAT_RING, LEAN, NOUGHTS, PAIR, PARTING, RING, ROW, TURN, Refusals
+from helpers import NIL, ONE, TWO, one_table, singular_rows, table_of
 from sweepends import dying, errors, falls, levels, methods, partings, rates, tables
-
-PAIR = table_of([[2, -1], [-1, 2]])
-LEAN = table_of([[1, 2], [0, 1]])
-FLAT = table_of([[1, 2], [2, 4]])
-TURN = table_of([[0, 1], [1, 0]])
-NOUGHTS = ((NIL, NIL), (NIL, NIL))
-RING = table_of([[2, -1, -1], [-1, 2, -1], [-1, -1, 4]])
-FLAT_RING, BARE_RING = table_of([[1, 1, 1]] * 3), table_of([[0, 1, 1], [1, 0, 1], [1, 1, 0]])
-PARTING = (PAIR, PAIR)
-ROW = (ONE, TWO)
-ODD_TABLES = ODD_VALUES + ODD_FRACTIONS + (
-    one_table(6), PAIR[:1], [list(row) for row in PAIR], list(PAIR), PAIR + PAIR[:1], (ROW, (ONE, (2, 2))),
-    (ROW, (ONE, (True, 1))), (ROW, [ONE, ONE]), ROW)
-ODD_METHODS = ODD_VALUES + ODD_FRACTIONS + (
-    ("lots", ((0,),)), ("behind", NIL), ("each", ONE), ("lots", ((0,), (1,), (2,))), ["each"], ("forth", ONE))
-ODD_PARTINGS = ODD_VALUES + ODD_FRACTIONS + (
-    PAIR, (PAIR,), (PAIR, FLAT), (FLAT, PAIR), (PAIR, one_table(3)), [PAIR, PAIR], (PAIR, PAIR, PAIR))
-ODD_NUMBERS = ODD_VALUES + (ONE, "3", float)
-NO_ROWS = tuple(odd for odd in ODD_VALUES if not (type(odd) is tuple and len(odd) == 2)) + (
-    ROW[:1], ROW + ROW[:1], list(ROW), {ONE: 1, TWO: 2}, dict(enumerate(ROW)), "ab", b"ab")
-
-
-def odd_rows():
-    """Wrong rows of two, each with the index of the first number that is wrong."""
-    found = [(odd, None) for odd in NO_ROWS]
-    for odd in ODD_VALUES + ODD_FRACTIONS:
-        found += [((odd, ONE), 0), ((ONE, odd), 1), ((odd, odd), 0)]
-    return found
-
-
-def wrong(kind):
-    """All wrong arguments of a kind: (argument, class of the error, what it has)."""
-    if kind == "row":
-        return [(odd, errors.InvalidRow, {"index": index}) for odd, index in odd_rows()]
-    odds, error = {
-        "table": (ODD_TABLES, errors.InvalidTable), "method": (ODD_METHODS, errors.InvalidMethod),
-        "same": (ODD_TABLES + (one_table(1), one_table(3)), errors.InvalidTable),
-        "parting": (ODD_PARTINGS, errors.InvalidParting),
-        "count": (ODD_NUMBERS + (-1, 41), errors.InvalidNumber),
-        "size": (ODD_NUMBERS + (0, 6), errors.InvalidNumber),
-        "many": (ODD_NUMBERS + (0, -5, 10 ** 6 + 1, 10 ** 7), errors.InvalidNumber),
-        "amount": (ODD_VALUES + ODD_FRACTIONS + (NIL, LESS, (-1, 3), [ONE], (ONE,)), errors.InvalidFraction),
-        "factor": (ODD_VALUES + ODD_FRACTIONS + (NIL, [ONE], (ONE,), "ab"), errors.InvalidFactor),
-        "served": (ODD_PARTINGS + ((one_table(1),) * 2, (RING, RING)), errors.InvalidParting),
-    }[kind]
-    return [(odd, error, {"given": odd}) for odd in odds]
-
 
 # Each function with its parameters in order: (name, kind of what is wrong for it, a right argument).
 TABLE, ROW_OF_TWO, METHOD = ("table", "table", PAIR), ("row", "row", ROW), ("method", "method", ("each",))
@@ -102,75 +56,9 @@ for odd_table, told_error in LEVELLESS:
              (levels.best_near, {"table": odd_table, "many": 3}, told_error)]
 
 
-class WrongArguments(unittest.TestCase):
-    def refused(self, function, arguments, error, told):
-        """By position, by name, and by name the other way round."""
-        names = list(arguments)
-        calls = [(tuple(arguments.values()), {}), ((), arguments),
-                 ((), {name: arguments[name] for name in names[::-1]})]
-        for by_position, by_name in calls:
-            with self.assertRaises(errors.SweepError) as caught:
-                function(*by_position, **by_name)
-            self.assertIs(type(caught.exception), error, (function.__name__, told.get("index")))
-            self.assertEqual(list(vars(caught.exception)), list(told))
-            for name, value in told.items():
-                self.assertIs(getattr(caught.exception, name), value)
-
-    def test_right_arguments(self):
-        for function, parameters in FUNCTIONS:
-            right = {name: value for name, _, value in parameters}
-            by_name = function(**right)
-            self.assertEqual(function(*right.values()), by_name)
-            self.assertEqual(function(**right), by_name)
-
-    def test_defined_where_the_document_lists_them(self):
-        for module, names in INTERFACE:
-            for name in names.split():
-                self.assertEqual(getattr(module, name).__module__, module.__name__)
-
-    def test_names_of_parameters(self):
-        for function, parameters in FUNCTIONS:
-            told = function.__code__.co_varnames[:function.__code__.co_argcount]
-            self.assertEqual(list(told), [name for name, _, _ in parameters])
-        for function in (tables.is_table, partings.is_parting):
-            self.assertEqual(function.__code__.co_varnames[:function.__code__.co_argcount], ("value",))
-
-    def test_each_wrong_argument_alone(self):
-        for function, parameters in FUNCTIONS:
-            right = {name: value for name, _, value in parameters}
-            for name, kind, _ in parameters:
-                for odd, error, told in wrong(kind) if kind else ():
-                    self.refused(function, swapped(right, name, odd), error, told)
-
-    def test_the_first_wrong_argument_counts(self):
-        for function, parameters in FUNCTIONS:
-            checked = [(name, kind) for name, kind, _ in parameters if kind]
-            for at, (first, kind) in enumerate(checked):
-                for later, other in checked[at + 1:]:
-                    right = {name: value for name, _, value in parameters}
-                    for odd, error, told in wrong(kind)[::3]:
-                        for beside, _, _ in wrong(other)[::17]:
-                            together = swapped(swapped(right, first, odd), later, beside)
-                            self.refused(function, together, error, told)
-
-    def test_all_wrong_together(self):
-        for function, parameters in FUNCTIONS:
-            for odd in (None, True, (), [], "x", 10 ** 300):
-                together = {name: odd for name, _, _ in parameters}
-                first = parameters[0][1]
-                error = [error for _, error, _ in wrong(first)][0]
-                self.refused(function, together, error, {"given": odd})
-
-    def test_last(self):
-        for function, arguments, error in LAST:
-            self.refused(function, arguments, error, {})
-
-    def test_last_comes_behind_every_other_error(self):
-        for function, arguments, _ in LAST:
-            parameters = [found for told, found in FUNCTIONS if told == function][0]
-            for name, kind, _ in parameters:
-                for odd, error, told in wrong(kind):
-                    self.refused(function, swapped(arguments, name, odd), error, told)
+class WrongArguments(Refusals, unittest.TestCase):
+    functions, interface, last = FUNCTIONS, INTERFACE, LAST
+    asked = (tables.is_table, partings.is_parting)
 
     def test_rows_of_each_number(self):
         for size in (1, 2, 3, 4, 5):

@@ -4,8 +4,8 @@ from fractions import Fraction
 from itertools import permutations, product as all_of
 
 from chosen import (
-    HALF, THIRD, blocks, companion, from_roots, jordan, minus_rows, one_rows, parting_for, parting_with, poly_power,
-    poly_rest, poly_times, regular, single, slanted, turning)
+    HALF, THIRD, blocks, companion, from_roots, images, jordan, minus_rows, one_rows, parting_for, parting_with,
+    poly_power, poly_rest, poly_times, rank, regular, single, slanted, turning)
 from helpers import (
     NIL, ONE, det, form, gram_rows, made_row, made_rows, number, numbers, one_table, pair_of, row_of, singular_rows,
     symmetric_rows, table_of, times, times_row)
@@ -45,27 +45,6 @@ def chosen_rows():
         parts = [rows for rows, _ in chosen]
         if sum(len(part) for part in parts) <= 5:
             yield parts, max(size for _, size in chosen)
-
-
-def rank(rows):
-    left, found = [list(row) for row in rows], 0
-    for at in range(len(rows[0]) if rows else 0):
-        for k in range(found, len(left)):
-            if left[k][at] != 0:
-                left[found], left[k] = left[k], left[found]
-                for other in range(found + 1, len(left)):
-                    factor = left[other][at] / left[found][at]
-                    left[other] = [one - factor * lead for one, lead in zip(left[other], left[found])]
-                found += 1
-                break
-    return found
-
-
-def images(rows, row, count):
-    found = [list(row)]
-    for _ in range(count):
-        found.append(times_row(rows, found[-1]))
-    return found
 
 
 class LeastPolynomials(unittest.TestCase):

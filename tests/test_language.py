@@ -2,6 +2,7 @@
 import ast
 import builtins
 import os
+import re
 import unittest
 
 ROOT = os.path.dirname(os.path.dirname(os.path.abspath(__file__)))
@@ -14,6 +15,12 @@ METHODS = set(
     "append clear copy count endswith extend find get index insert isalnum isalpha isdigit islower isspace isupper"
     " items join keys ljust lower lstrip partition pop remove replace reverse rfind rjust rpartition rsplit rstrip"
     " setdefault split splitlines startswith strip update upper values zfill bit_length add discard sort".split())
+AT_ONCE = set("list tuple dict sorted sum any all min max".split())
+# Words that stand nowhere, or in docstrings and comments only.
+BARRED = re.compile(r"_wall|_WallAttr")
+BARRED_NAMES = set(
+    "mro elements open input law version_info with_traceback add_note register compile copyright credits dir eval exec"
+    " exit gc globals help id license locals os quit super vars object format hash next map round filter".split())
 NOT_THERE = (ast.AsyncFunctionDef, ast.AsyncFor, ast.AsyncWith, ast.Await, ast.Div, ast.Import)
 
 
@@ -112,6 +119,41 @@ class Language(unittest.TestCase):
         for name, node in nodes():
             if isinstance(node, ast.Call) and isinstance(node.func, ast.Attribute):
                 self.assertIn(node.func.attr, METHODS, (name, node.lineno))
+
+    def test_words(self):
+        for name, tree in trees():
+            self.assertIsNone(BARRED.search(text_of(name)), name)
+            told = {node.id for node in ast.walk(tree) if isinstance(node, ast.Name)}
+            told |= {node.arg for node in ast.walk(tree) if isinstance(node, (ast.arg, ast.keyword))}
+            told |= {node.name for node in ast.walk(tree) if isinstance(node, (ast.FunctionDef, ast.ClassDef))}
+            told |= {node.attr for node in ast.walk(tree) if isinstance(node, ast.Attribute)}
+            self.assertEqual(told & BARRED_NAMES, set(), name)
+            self.assertFalse([word for word in told if word is not None and word.startswith("__")
+                              and word != "__init__"], name)
+
+    def test_no_powers_and_no_bare_strings(self):
+        for name, node in nodes():
+            if isinstance(node, ast.BinOp):
+                self.assertNotIsInstance(node.op, (ast.Pow, ast.Div), (name, node.lineno))
+            if isinstance(node, ast.Constant) and isinstance(node.value, str):
+                self.assertNotIn("%", node.value, (name, node.lineno))
+
+    def test_iterated_at_once(self):
+        """What is made to be iterated stands in the head of a loop or in a call that iterates it."""
+        for name, tree in trees():
+            heads = {id(node.iter) for node in ast.walk(tree) if isinstance(node, (ast.For, ast.comprehension))}
+            calls = [node for node in ast.walk(tree) if isinstance(node, ast.Call) and isinstance(node.func, ast.Name)]
+            for call in calls:
+                if call.func.id in AT_ONCE | {"enumerate", "zip"}:
+                    heads |= {id(part) for part in call.args[:1]}
+                if call.func.id == "reversed":
+                    heads |= {id(part) for part in call.args if "range" in ast.dump(part)}
+            for node in ast.walk(tree):
+                kind = node.func.id if isinstance(node, ast.Call) and isinstance(node.func, ast.Name) else None
+                if kind in ("zip", "enumerate", "reversed", "range") or isinstance(node, ast.GeneratorExp):
+                    self.assertIn(id(node), heads, (name, node.lineno))
+                if kind in AT_ONCE and any(isinstance(part, ast.GeneratorExp) for part in node.args):
+                    self.assertEqual(len(node.args) + len(node.keywords), 1, (name, node.lineno))
 
     def test_is(self):
         for name, node in nodes():
