@@ -69,6 +69,13 @@ def conjugate_run(table, right, guess):
     return tuple(guesses)
 
 
+def steps_to_end(table, right, guess):
+    """How many steps the run has: as many as the first residual has degree."""
+    require_start(table, right, guess)
+    require_positive(table)
+    return len(least_of(table, rows_minus(right, image(table, guess)))) - 1
+
+
 def error_forms(table, right, guess):
     """The forms of the error at all guesses."""
     require_start(table, right, guess)

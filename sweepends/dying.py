@@ -88,6 +88,11 @@ def does_serve(table, parting):
     require_table(table)
     if not is_parting(parting) or len(parting[0]) != len(table):
         raise InvalidParting(parting)
+    return is_serving(table, parting)
+
+
+def is_serving(table, parting):
+    """Whether a table serves a parting with as many rows."""
     if turned_grid(table) != table or failing_count(table) is not None:
         return False
     errors = errors_of(parting)

@@ -29,10 +29,15 @@ def rate_word(parting, other):
     require_parting(parting)
     if not is_parting(other):
         raise InvalidParting(other)
-    order = root_order(square_polynomial(parting), square_polynomial(other))
+    order = size_order(parting, other)
     if order == 0:
         return "same"
     return "quicker" if order < 0 else "slower"
+
+
+def size_order(parting, other):
+    """-1, 0 or 1 as the size of the first parting is below, at or above that of the other one."""
+    return root_order(square_polynomial(parting), square_polynomial(other))
 
 
 def square_polynomial(parting):

@@ -70,6 +70,56 @@ def odd_late_steps():
     return found + [((FIRST,) * 201, 200), ((FIRST,) * 400, 200), ((FIRST,) * 200 + (None,), 200)]
 
 
+SIDE, SLOPE = ((ONE, NIL), TWO), ((ONE, ONE), NIL)
+FENCE = (SIDE, SLOPE)
+ODD_SIDES = ODD_VALUES + ODD_FRACTIONS + (
+    ((NIL, NIL), ONE), ((ONE, (2, 2)), ONE), ((ONE, ONE), (2, 2)), ((ONE, ONE), 1), ((ONE, ONE), True), ((ONE, ONE),),
+    ((ONE, ONE), ONE, ONE), [(ONE, ONE), ONE], ([ONE, ONE], ONE), ((ONE, [1, 1]), ONE), ((ONE, ONE), [1, 1]),
+    ((), ONE), ((ONE,) * 6, ONE), (ONE, (ONE, ONE)), ((ONE, True), ONE), ((ONE, ONE), (ONE,)))
+
+
+def odd_walls():
+    """Wrong walls, each with the index of the first that is wrong."""
+    found = [(odd, None) for odd in ODD_VALUES if type(odd) is not tuple or len(odd) == 0]
+    found += [([SIDE, SLOPE], None), ({0: SIDE}, None), ({SIDE: 1}, None), (SIDE, 0), ((SIDE[0],), 0)]
+    for odd in ODD_SIDES:
+        found += [((odd,), 0), ((SIDE, odd), 1), ((SIDE, SLOPE, odd, odd), 2), ((odd, SIDE), 0)]
+    for other in (((ONE,), ONE), ((ONE,) * 3, ONE), ((NIL,) * 4 + (ONE,), ONE)):
+        found += [((SIDE, other), 1), ((other, SIDE), 1), ((other, other, SIDE), 2), ((SIDE, SLOPE, other, None), 2)]
+    return found + [((SIDE,) * 7, 6), ((SIDE,) * 9, 6), ((SIDE, SLOPE) * 3 + (None,), 6), ((SIDE,) * 5 + (None,), 5)]
+
+
+def odd_orders():
+    """Wrong orders for two walls, each with the index of the first element that is wrong."""
+    found = [(odd, None) for odd in ODD_VALUES if type(odd) is not tuple or len(odd) == 0]
+    found += [([0, 1], None), ({0: 1}, None), (range(2), None), ("01", None), (b"01", None), (0, None)]
+    for odd in ODD_VALUES + (2, 3, 10 ** 399, -2, True, False, (0,), "0", ONE, [0], NIL):
+        found += [((odd,), 0), ((0, odd), 1), ((1, 0, odd, odd), 2), ((odd, 1), 0)]
+    return found + [((0,) * 25, 24), ((0, 1) * 20, 24), ((1,) * 24 + (2,), 24), ((1,) * 23 + (2, 0), 23)]
+
+
+def odd_squares():
+    """Wrong falling rows, each with the index of the first element that is wrong."""
+    found = [(odd, None) for odd in ODD_VALUES if type(odd) is not tuple or not 2 <= len(odd) <= 6]
+    found += [((), None), ((ONE,), None), ((NIL,), None), ([ONE, NIL], None), ((ONE,) * 6 + (NIL,), None),
+              ((None,) * 7, None), ({ONE: 1, NIL: 2}, None), ("10", None)]
+    for odd in ODD_VALUES + ODD_FRACTIONS:
+        found += [((odd, NIL), 0), ((ONE, odd), 1), ((TWO, ONE, odd, odd), 2), ((odd, ONE, NIL), 0)]
+    # 0 or below it too early, above 0 at last, and what rises.
+    found += [((NIL, NIL), 0), ((LESS, NIL), 0), ((ONE, NIL, NIL), 1), ((ONE, ONE), 1), ((ONE, LESS), 1),
+              ((TWO, ONE, (-1, 5), NIL), 2), ((ONE, TWO, NIL), 1), ((TWO, ONE, (3, 2), NIL), 2),
+              ((ONE, (1, 10 ** 300)), 1), ((ONE, (10 ** 300 + 1, 10 ** 300), NIL), 1),
+              ((ONE, TWO), 1), ((TWO, TWO, TWO), 2), ((NIL, ONE, NIL), 0),
+              ((ONE, TWO, None), 1), ((ONE, NIL, None), 1), ((TWO, TWO, TWO, TWO, TWO, ONE), 5)]
+    return found
+
+
+ODD_POLYNOMIALS = ODD_VALUES + ODD_FRACTIONS + (
+    (ONE,), (ONE, ONE, ONE, ONE), [ONE, ONE, ONE], (NIL, ONE, ONE), (ONE, ONE, NIL), (ONE, ONE, TWO), (ONE, ONE, LESS),
+    (ONE, ONE, (2, 2)), ((2, 4), ONE, ONE), (ONE, None, ONE), (ONE, ONE), (NIL, NIL, ONE), (ONE, ONE, True),
+    (ONE, ONE, 1))
+
+
 def wrong(kind):
     """All wrong arguments of a kind: (argument, class of the error, what it has)."""
     if kind == "row":
@@ -78,6 +128,12 @@ def wrong(kind):
         return [(odd, errors.InvalidRow, {"index": index}) for odd, index in odd_highs()]
     if kind == "amounts":
         return [(odd, errors.InvalidAmounts, {"index": index}) for odd, index in odd_amounts()]
+    if kind == "walls":
+        return [(odd, errors.InvalidWalls, {"index": index}) for odd, index in odd_walls()]
+    if kind == "order":
+        return [(odd, errors.InvalidOrder, {"index": index}) for odd, index in odd_orders()]
+    if kind == "squares":
+        return [(odd, errors.InvalidRow, {"index": index}) for odd, index in odd_squares()]
     if kind == "steps":
         return [(odd, errors.InvalidSteps, {"index": index}) for odd, index in odd_late_steps()]
     odds, error = {
@@ -97,6 +153,11 @@ def wrong(kind):
         "fraction": (ODD_VALUES + ODD_FRACTIONS + ([ONE], (ONE,), "ab"), errors.InvalidFraction),
         "above one": (ODD_VALUES + ODD_FRACTIONS + (NIL, LESS, ONE, (999, 1000), (-5, 2), [TWO]),
                       errors.InvalidFraction),
+        "begun": (ODD_NUMBERS + (0, -1, 6, 60), errors.InvalidNumber),
+        "place": (ODD_NUMBERS + (-2, 2, 3, 6), errors.InvalidIndex),
+        "share": (ODD_VALUES + ODD_FRACTIONS + (NIL, LESS, TWO, (-1, 3), (5, 2), (3, 1), [ONE], (ONE,), "ab"),
+                  errors.InvalidShare),
+        "polynomial": (ODD_POLYNOMIALS, errors.InvalidPolynomial),
         "served": (ODD_PARTINGS + ((one_table(1),) * 2, (RING, RING)), errors.InvalidParting),
     }[kind]
     return [(odd, error, {"given": odd}) for odd in odds]

@@ -233,6 +233,13 @@ class NeverSlower(unittest.TestCase):
         self.assertIs(never_slower(each, wild), False)
         self.assertIs(never_slower(wild, wild), False)
 
+    def test_only_the_slower_one_is_not_regular(self):
+        # Its N has no number below 0, but its M^-1 has one.
+        table = table_of([[2, -1], [-1, 2]])
+        each, other = parting_of(table, ("each",)), (table, table_of([[2, 1], [0, 2]]))
+        self.assertIs(is_regular(other), False)
+        self.assertIs(never_slower(each, other), False)
+
     def test_a_little_more_in_one_place(self):
         table = table_of([[2, -1], [-1, 2]])
         one, other = table_of([[2, 0], [0, 2]]), table_of([[2, -TINY], [0, 2]])
